@@ -1,0 +1,55 @@
+package turn
+
+import (
+	"iter"
+	"math/bits"
+)
+
+// set is a set of plates, by bits.
+type set int
+
+// only returns the set of one plate.
+func only(plate int) set {
+	return 1 << plate
+}
+
+// has returns whether a plate is in a set.
+func (s set) has(plate int) bool {
+	return s&only(plate) != 0
+}
+
+// with returns the plates of a set and those of another one.
+func (s set) with(other set) set {
+	return s | other
+}
+
+// without returns the plates of a set but for those of another one.
+func (s set) without(other set) set {
+	return s &^ other
+}
+
+// size returns how many plates are in a set.
+func (s set) size() int {
+	return bits.OnesCount(uint(s))
+}
+
+// parts yields all parts of a set: smaller ones first, and of those that are as large the least number first.
+func (s set) parts(yield func(part set) bool) {
+	for size := range s.size() + 1 {
+		for part := range s + 1 {
+			if part.without(s) == 0 && part.size() == size && !yield(part) {
+				return
+			}
+		}
+	}
+}
+
+// first returns the first thing that suits, and whether any does.
+func first[T any](things iter.Seq[T], suits func(T) bool) (found T, is bool) {
+	for thing := range things {
+		if suits(thing) {
+			return thing, true
+		}
+	}
+	return found, false
+}
